@@ -1,0 +1,1 @@
+"""Days that aren't alike: an inspector with few looks, and one who may dare."""
