@@ -60,6 +60,8 @@ def fraction(answer):
     zero, above, below = answer
     if [type(number) for number in answer] != [int, int, int]:
         raise AssertionError("not whole numbers: " + repr(answer))
+    if max(abs(above), below) >= 2 ** 31:
+        raise AssertionError("too large: " + repr(answer))
     told = Fraction(above, below)
     if zero != 0 or (told.numerator, told.denominator) != (above, below):
         raise AssertionError("not a fraction as told: " + repr(answer))
