@@ -3,28 +3,22 @@
 import unittest
 
 from tests.helper import (
-    ABOVE_3, ABOVE_5, BEGIN, BRINGS, DARE, DAY, DROP, FINE, FROM, LOOK, LOOKS, MISDEEDS,
-    NOT_A_FINE, TOP, WORTH, ask, game, held, last,
+    ABOVE_3, ABOVE_5, BEGIN, BRINGS, BROUGHT, CAUGHT, DARE, DAREFROM, DAY, DROP, FINE, FIRSTDAY, FOUR, FROM,
+    IFBRINGS, IFFINE, IFLOOKS, LOOK, LOOKFROM, LOOKS, MISDEEDS, NOT_A_FINE, TOLD, TOP, WITHOUT, WORTH, Refusing,
+    ask, game, held, last,
 )
 
 LAID = game((1, 0, 3), 2, 4, 3)
-HOLDS = [2, 4, 3, [1, 0, 3]]
-
-
-class Refusing(unittest.TestCase):
-    def refused(self, number, call, laid=None, holds=None):
-        """The call answers that number alone, and what is held stays as it was."""
-        laid = LAID if laid is None else laid
-        holds = HOLDS if holds is None else holds
-        self.assertEqual(last(*laid, call), [number], call)
-        self.assertEqual(held(*laid, call), holds, call)
 
 
 class BeforeBegin(unittest.TestCase):
     OTHERS = (
         [DAY, 1], [DAY, TOP], [DROP], [BRINGS, 0, 1], [BRINGS, TOP, TOP], [LOOKS, 1], [LOOKS, 6],
         [MISDEEDS, 1], [MISDEEDS, TOP], [FINE, 1], [FINE, 0], [WORTH], [LOOK], [DARE],
-        [FROM, 0, 1, 1], [FROM, TOP, TOP, TOP],
+        [FROM, 0, 1, 1], [FROM, TOP, TOP, TOP], [LOOKFROM, 0, 1, 1], [LOOKFROM, TOP, TOP, TOP],
+        [DAREFROM, 0, 1, 1], [DAREFROM, TOP, TOP, TOP], [FOUR], [CAUGHT], [BROUGHT], [IFBRINGS, 0, 1],
+        [IFBRINGS, TOP, TOP], [IFLOOKS, 1], [IFLOOKS, 6], [IFLOOKS, TOP], [IFFINE, 1], [IFFINE, 0],
+        [IFFINE, TOP], [WITHOUT, 0], [WITHOUT, TOP], [FIRSTDAY], [TOLD],
     )
 
     def test_all_else_is_refused(self):
@@ -84,17 +78,15 @@ class Day(Refusing):
     def test_out_of_range(self):
         for number in ABOVE_3:
             self.refused(-22, [DAY, number])
-            self.refused(-22, [DAY, number], [[BEGIN, 1, 1, 1]], [1, 1, 1, []])
+            self.refused(-22, [DAY, number], brings=())
 
     def test_full(self):
-        full = game((1, 2, 3, 0), 1, 1, 1)
         for number in (0, 1, 3):
-            self.refused(-28, [DAY, number], full, [1, 1, 1, [1, 2, 3, 0]])
+            self.refused(-28, [DAY, number], brings=(1, 2, 3, 0))
 
     def test_out_of_range_ahead_of_full(self):
-        full = game((1, 2, 3, 0), 1, 1, 1)
         for number in ABOVE_3:
-            self.refused(-22, [DAY, number], full, [1, 1, 1, [1, 2, 3, 0]])
+            self.refused(-22, [DAY, number], brings=(1, 2, 3, 0))
 
     def test_room_again_behind_a_drop(self):
         full = game((1, 2, 3, 0), 1, 1, 1)
@@ -110,7 +102,7 @@ class Drop(Refusing):
         self.assertEqual(ask(*LAID, [DROP], [DROP], [DROP], [DROP], [DROP])[4:], [[2], [1], [0], [-6], [-6]])
 
     def test_none(self):
-        self.refused(-6, [DROP], [[BEGIN, 2, 1, 3]], [2, 1, 3, []])
+        self.refused(-6, [DROP], brings=())
 
 
 class Brings(Refusing):
@@ -127,7 +119,7 @@ class Brings(Refusing):
         for day in (3, 4, 5, 255, 256, 2147483648, TOP):
             self.refused(-2, [BRINGS, day, 1])
         for day in (0, 1, TOP):
-            self.refused(-2, [BRINGS, day, 1], [[BEGIN, 2, 4, 3]], [2, 4, 3, []])
+            self.refused(-2, [BRINGS, day, 1], brings=())
 
     def test_a_dropped_day_is_no_day(self):
         self.assertEqual(last(*LAID, [DROP], [BRINGS, 2, 1]), [-2])

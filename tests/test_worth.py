@@ -1,15 +1,13 @@
-"""worth, look, dare, from: worked out by hand, and against a second way for every game there is."""
+"""worth, look, dare, from, lookfrom, darefrom: worked out by hand, and against a second way for every game there is."""
 
 import unittest
 from fractions import Fraction
 from itertools import product
 
 from tests.helper import (
-    ABOVE_5, BEGIN, BRINGS, DARE, DAY, DROP, FINE, FROM, LOOK, LOOKS, MISDEEDS, TOP, WORTH,
-    ask, cases, fraction, game, held, last, second_worth,
+    ABOVE_5, ALL_DAYS, BEGIN, BRINGS, DARE, DAREFROM, DAY, DROP, FINE, FROM, LOOK, LOOKFROM, LOOKS, MISDEEDS,
+    TOP, WORTH, Refusing, ask, cases, fraction, game, held, last, second_chances, second_course, second_worth,
 )
-
-ALL_DAYS = [brings for size in range(5) for brings in product(range(4), repeat=size)]
 
 
 class ByHand(unittest.TestCase):
@@ -94,39 +92,55 @@ class ByHand(unittest.TestCase):
                                        [0, 3, 1], [0, 0, 1]])
 
 
-class From(unittest.TestCase):
+class From(Refusing):
     LAID = game((2, 1, 3), 5, 0, 2)
+    ASKED = ((1, 1, 1), (1, 0, 2), (1, 0, 1), (2, 0, 5), (2, 1, 5), (0, 5, 5), (0, 0, 2), (0, 1, 1), (0, 0, 0),
+             (2, 5, 0))
 
-    def test_by_hand(self):
-        found = ask(*self.LAID, [FROM, 1, 1, 1], [FROM, 1, 0, 2], [FROM, 2, 0, 5], [FROM, 2, 1, 5],
-                    [FROM, 0, 5, 5], [FROM, 0, 0, 2], [FROM, 0, 0, 0])[4:]
-        self.assertEqual(found, [[0, 1, 2], [0, 4, 1], [0, 3, 1], [0, 0, 1], [0, 0, 1], [0, 5, 1], [0, 0, 1]])
+    def tells(self, number, *wanted):
+        found = ask(*self.LAID, *[[number, *asked] for asked in self.ASKED])[4:]
+        self.assertEqual(found, [[0, above, below] for above, below in wanted])
 
-    def test_changes_nothing(self):
-        self.assertEqual(held(*self.LAID, [FROM, 1, 1, 1], [WORTH], [LOOK], [DARE]), [5, 0, 2, [2, 1, 3]])
+    def test_from_by_hand(self):
+        self.tells(FROM, (1, 2), (4, 1), (3, 1), (3, 1), (0, 1), (0, 1), (5, 1), (14, 13), (0, 1), (0, 1))
 
-    def refused(self, number, call):
-        self.assertEqual(last(*self.LAID, call), [number], call)
-        self.assertEqual(held(*self.LAID, call), [5, 0, 2, [2, 1, 3]], call)
+    def test_lookfrom_by_hand(self):
+        self.tells(LOOKFROM, (1, 6), (0, 1), (0, 1), (0, 1), (3, 5), (1, 2), (0, 1), (3, 13), (0, 1), (0, 1))
+
+    def test_darefrom_by_hand(self):
+        self.tells(DAREFROM, (1, 2), (1, 1), (0, 1), (1, 1), (0, 1), (0, 1), (1, 1), (5, 13), (0, 1), (0, 1))
+
+    def test_change_nothing(self):
+        calls = [[number, 1, 1, 1] for number in (FROM, LOOKFROM, DAREFROM)]
+        self.assertEqual(held(*self.LAID, *calls, [WORTH], [LOOK], [DARE]), [5, 0, 2, [2, 1, 3]])
 
     def test_no_such_day(self):
-        for day in (3, 4, 5, 256, 2147483648, TOP):
-            self.refused(-2, [FROM, day, 0, 0])
-        for day in (0, 1, TOP):
-            self.assertEqual(ask([BEGIN, 1, 1, 1], [FROM, day, 1, 1]), [[0], [-2]])
+        for number in (FROM, LOOKFROM, DAREFROM):
+            for day in (3, 4, 5, 256, 2147483648, TOP):
+                self.refused(-2, [number, day, 0, 0])
+            for day in (0, 1, TOP):
+                self.refused(-2, [number, day, 1, 1], brings=())
+            for day in (4, 5, TOP):
+                self.refused(-2, [number, day, 1, 1], brings=(1, 1, 1, 1))
+            self.assertEqual(last(*self.LAID, [DROP], [number, 2, 1, 1]), [-2])
 
     def test_out_of_range(self):
-        for day in range(3):
-            for number in ABOVE_5:
-                self.refused(-22, [FROM, day, number, 0])
-                self.refused(-22, [FROM, day, 5, number])
-            self.refused(-22, [FROM, day, TOP, TOP])
+        for number, day in product((FROM, LOOKFROM, DAREFROM), range(3)):
+            for count in ABOVE_5:
+                self.refused(-22, [number, day, count, 0])
+                self.refused(-22, [number, day, 5, count])
+                self.refused(-22, [number, day, 0, count])
+            self.refused(-22, [number, day, TOP, TOP])
 
     def test_no_such_day_ahead_of_out_of_range(self):
-        for day in (3, TOP):
-            for number in ABOVE_5:
-                self.refused(-2, [FROM, day, number, 1])
-                self.refused(-2, [FROM, day, 1, number])
+        for number, day in product((FROM, LOOKFROM, DAREFROM), (3, TOP)):
+            for count in ABOVE_5:
+                self.refused(-2, [number, day, count, 1])
+                self.refused(-2, [number, day, 1, count])
+
+    def test_most_that_may_be_asked(self):
+        for number in (FROM, LOOKFROM, DAREFROM):
+            self.assertEqual(last(*game((0,), 0, 0, 1), [number, 0, 5, 5]), [0, 0, 1])
 
 
 class EveryGame(unittest.TestCase):
@@ -143,18 +157,24 @@ class EveryGame(unittest.TestCase):
         wanted = [second_worth(brings, fine, looks, misdeeds) for misdeeds in range(6)]
         self.assertEqual(told, wanted, (brings, fine, looks))
 
-    def test_from(self):
-        for brings in ALL_DAYS:
-            for fine in (1, 2, 3):
-                for day in range(len(brings)):
-                    self.check_from(brings, fine, day)
-
-    def check_from(self, brings, fine, day):
+    def check_from(self, number, second):
+        """What that call tells of each day with each count of looks, of misdeeds."""
         pairs = list(product(range(6), repeat=2))
-        calls = [[FROM, day, looks, misdeeds] for looks, misdeeds in pairs]
-        found = ask(*game(brings, 3, 2, fine), *calls)[1 + len(brings):]
-        wanted = [second_worth(brings[day:], fine, looks, misdeeds) for looks, misdeeds in pairs]
-        self.assertEqual([fraction(answer) for answer in found], wanted, (brings, fine, day))
+        for brings, fine in product(ALL_DAYS, (1, 2, 3)):
+            for day in range(len(brings)):
+                calls = [[number, day, looks, misdeeds] for looks, misdeeds in pairs]
+                found = ask(*game(brings, 3, 2, fine), *calls)[1 + len(brings):]
+                wanted = [second(brings[day:], fine, looks, misdeeds) for looks, misdeeds in pairs]
+                self.assertEqual([fraction(answer) for answer in found], wanted, (brings, fine, day))
+
+    def test_from(self):
+        self.check_from(FROM, second_worth)
+
+    def test_lookfrom(self):
+        self.check_from(LOOKFROM, lambda *state: second_chances(*state)[0])
+
+    def test_darefrom(self):
+        self.check_from(DAREFROM, lambda *state: second_chances(*state)[1])
 
     def test_chances(self):
         for brings in ALL_DAYS[1:]:
@@ -181,17 +201,9 @@ class EveryGame(unittest.TestCase):
         self.assertEqual(to_other + to_inspector, [worth] * 4, where)
 
 
-class WhatHolds(unittest.TestCase):
-    def test_a_day_that_brings_nothing_might_as_well_not_be(self):
-        for brings in product(range(4), repeat=3):
-            for place in range(4):
-                longer = brings[:place] + (0,) + brings[place:]
-                for looks, misdeeds in ((0, 2), (1, 1), (1, 2), (2, 1), (2, 3)):
-                    self.assertEqual(last(*game(brings, looks, misdeeds, 2), [WORTH]),
-                                     last(*game(longer, looks, misdeeds, 2), [WORTH]), longer)
-
-
 class SecondWay(unittest.TestCase):
     def test_agrees_with_what_is_worked_out_by_hand(self):
         self.assertEqual(second_worth((1, 1, 1), 1, 2, 1), Fraction(1, 7))
         self.assertEqual(second_worth((1, 2, 3), 1, 1, 1), 1)
+        self.assertEqual(second_chances((1, 3), 2, 1, 1), (Fraction(1, 6), Fraction(1, 2)))
+        self.assertEqual(second_course((1, 3), 2, 1, 1), (Fraction(1, 12), Fraction(2, 3)))

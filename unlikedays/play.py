@@ -4,7 +4,7 @@ from unlikedays.ratios import ONE, ZERO, is_less, minus, over, plus, times
 
 
 class Four:
-    """What comes of a day's four cases, all played best behind."""
+    """What stands for each of a day's four cases."""
 
     def __init__(self, looked_dared, looked_only, dared_only, neither):
         self.looked_dared = looked_dared
@@ -29,6 +29,13 @@ def chance_to_dare(four):
     cost = minus(four.looked_only, four.neither)
     use = minus(four.dared_only, four.looked_dared)
     return over(cost, plus(cost, use))
+
+
+def mean_of(four, look, dare):
+    """What the four cases come to in the mean, by these chances of looking, of daring."""
+    unlooked = plus(four.neither, times(dare, minus(four.dared_only, four.neither)))
+    looked = plus(four.looked_only, times(dare, minus(four.looked_dared, four.looked_only)))
+    return plus(unlooked, times(look, minus(looked, unlooked)))
 
 
 class Play:
@@ -59,7 +66,7 @@ class Play:
         return plus((self.brings[day], 1), self.worth(day + 1, looks, misdeeds - 1))
 
     def four_of(self, day, looks, misdeeds):
-        """That day's four, with one look and one misdeed at least."""
+        """What comes of that day's four cases, all played best behind, with one look and one misdeed at least."""
         return Four(
             (-self.fine, 1),
             self.worth(day + 1, looks - 1, misdeeds),
@@ -82,3 +89,35 @@ class Play:
     def dare_chance_unwatched(self, day, misdeeds):
         neither = self.worth(day + 1, 0, misdeeds)
         return ONE if is_less(neither, self.worth_dared(day, 0, misdeeds)) else ZERO
+
+    def mean_today(self, cases, day, looks, misdeeds):
+        """The mean of what stands for each case of that day, with one look and one misdeed at least."""
+        four = self.four_of(day, looks, misdeeds)
+        return mean_of(cases, chance_to_look(four), chance_to_dare(four))
+
+    def caught(self, day, looks, misdeeds):
+        """How likely the other's caught from that day on."""
+        if day == len(self.brings) or looks == 0 or misdeeds == 0:
+            return ZERO
+        cases = Four(
+            ONE,
+            self.caught(day + 1, looks - 1, misdeeds),
+            self.caught(day + 1, looks, misdeeds - 1),
+            self.caught(day + 1, looks, misdeeds),
+        )
+        return self.mean_today(cases, day, looks, misdeeds)
+
+    def brought(self, day, looks, misdeeds):
+        """What's brought unseen from that day on, in the mean."""
+        if day == len(self.brings) or misdeeds == 0:
+            return ZERO
+        # Unwatched nobody's caught, so all that it's worth is brought.
+        if looks == 0:
+            return self.worth_unwatched(day, misdeeds)
+        cases = Four(
+            ZERO,
+            self.brought(day + 1, looks - 1, misdeeds),
+            plus((self.brings[day], 1), self.brought(day + 1, looks, misdeeds - 1)),
+            self.brought(day + 1, looks, misdeeds),
+        )
+        return self.mean_today(cases, day, looks, misdeeds)
